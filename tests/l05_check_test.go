@@ -179,12 +179,60 @@ func TestTypesOfSame(t *testing.T) {
 	checkType(t, "(1 = 1) = 7", impl.ErrType, "num#7")
 	checkType(t, "(1 + 1) = p", impl.ErrType, "name.p")
 	checkType(t, "p = (1 + 1)", impl.ErrType, "two.1(1,2)")
-	// The right side is looked at first where the left one is a number.
-	checkType(t, "2 = not n", impl.ErrType, "name.n")
-	checkType(t, "2 = y", impl.ErrNone, "name.y")
 	checkType(t, "y = z", impl.ErrNone, "name.y")
 	checkType(t, "n = y", impl.ErrNone, "name.y")
 	checkType(t, "n <> p", impl.ErrType, "name.p")
+}
+
+// A number on the left is held against what the right side is, ahead of all that is met in the right side.
+func TestNumberOnTheLeftOfSame(t *testing.T) {
+	for _, right := range []string{"not n", "not y", "not rb", "(n and p)", "(y or z)", "(p xor 7)", "(p < n)", "(p + 1 < 3)", "(y < z)", "(n = p)", "(y = z)", "(2 = p)", "rb[p]", "rb[y]", "rb[rn]",
+		"p", "uq", "not p", "(p and f)", "(1 < 2)", "rb[0]",
+		// What its name stands for is bool, whether or not it may stand there.
+		"rb", "p[0]", "p[y]", "uq[0]"} {
+		checkType(t, "5 = "+right, impl.ErrType, "num#5")
+		checkType(t, "5 <> "+right, impl.ErrType, "num#5")
+		checkType(t, "2 = "+right, impl.ErrType, "num#2")
+		checkType(t, "65535 = "+right, impl.ErrType, "num#65535")
+	}
+	// Of 0 and 1, that fit both, and where the right side is an int or stands for nothing, it is the right side that is told.
+	for _, number := range []string{"0", "1", "true", "false"} {
+		checkType(t, number+" = not 7", impl.ErrType, "num#7")
+		checkType(t, number+" = not n", impl.ErrType, "name.n")
+		checkType(t, number+" = rb[p]", impl.ErrType, "name.p")
+		checkType(t, number+" = (p + 1 < 3)", impl.ErrType, "name.p")
+		checkType(t, number+" = rb", impl.ErrForm, "name.rb")
+	}
+	for _, number := range []string{"0", "1", "2", "5", "65535"} {
+		checkType(t, number+" = y", impl.ErrNone, "name.y")
+		checkType(t, number+" = y[z]", impl.ErrNone, shownItem(t, "y[z]"))
+		checkType(t, number+" = (p + 1)", impl.ErrType, "name.p")
+		checkType(t, number+" = (y mod 0)", impl.ErrNone, "name.y")
+		checkType(t, number+" = -p", impl.ErrType, "name.p")
+		checkType(t, number+" = rn", impl.ErrForm, "name.rn")
+		checkType(t, number+" = rn[p]", impl.ErrType, "name.p")
+	}
+	// A number within brackets is one; one behind a sign is none.
+	checkType(t, "(5) = not n", impl.ErrType, "num#5")
+	checkType(t, "-5 = not n", impl.ErrType, "name.n")
+	checkType(t, "-5 = not p", impl.ErrType, "not(2)")
+}
+
+// shownItem answers the item as it is shown where one node stands ahead of its kid.
+func shownItem(t *testing.T, item string) string {
+	tree := program(t, "x := 1 = "+item+";")
+	return showNode(tree.Nodes[2])
+}
+
+// The same of a whole program: the statement tells what its kid tells.
+func TestNumberOnTheLeftOfSameInStatements(t *testing.T) {
+	for _, statement := range []string{"f := %;", "rb[0] := %;", "if % then end;", "rtrig r(%);", "sr w(p, not %);", "f := not (p and %);"} {
+		checkTold(t, declared+strings.Replace(statement, "%", "(5 = (not 7))", 1), impl.ErrType, "num#5")
+		checkTold(t, declared+strings.Replace(statement, "%", "(3 <> (7 and p))", 1), impl.ErrType, "num#3")
+		checkTold(t, declared+strings.Replace(statement, "%", "(1 = (not 7))", 1), impl.ErrType, "num#7")
+		checkTold(t, declared+strings.Replace(statement, "%", "(5 = (p + 1))", 1), impl.ErrType, "name.p")
+		checkTold(t, declared+strings.Replace(statement, "%", "(5 = zz)", 1), impl.ErrNone, "name.zz")
+	}
 }
 
 // Which node is told where several do not fit.

@@ -109,7 +109,7 @@ func asksOfTwo(t impl.Tree, node impl.Node) []asked {
 	wanted := int64(impl.TypeInt)
 	switch {
 	case node.Op == impl.OpSame && t.Nodes[left].Kind == impl.NodeNum:
-		return append(asksOfExpression(t, right, 0), asksOfExpression(t, left, plainType(t, right))...)
+		return append(asksOfExpression(t, left, plainType(t, right)), asksOfExpression(t, right, 0)...)
 	case node.Op == impl.OpSame:
 		return append(asksOfExpression(t, left, 0), asksOfExpression(t, right, plainType(t, left))...)
 	case node.Op == impl.OpAnd || node.Op == impl.OpOr || node.Op == impl.OpXor:
