@@ -100,12 +100,21 @@ func WordsFault(words []int64) int64 {
 	if len(words) > MaxWords {
 		return ErrMany
 	}
-	for _, w := range words {
-		if !fitsWord(w) {
-			return ErrRange
-		}
+	if !allWords(words) {
+		return ErrRange
 	}
 	return OK
+}
+
+func allWords(lists ...[]int64) bool {
+	for _, list := range lists {
+		for _, w := range list {
+			if !fitsWord(w) {
+				return false
+			}
+		}
+	}
+	return true
 }
 
 func fitsWord(n int64) bool {
