@@ -245,6 +245,11 @@ func runStackTold(code, cells []int64, budget int64) impl.StackResult {
 }
 
 func stackTextTold(code []int64) impl.TextResult {
+	return codeTextTold(code, stackNames, stackWords)
+}
+
+// codeTextTold writes word by word; left is how many are still to stand behind the op.
+func codeTextTold(code []int64, names, words string) impl.TextResult {
 	if fault := wordsFaultTold(code); fault != impl.OK {
 		return impl.TextResult{Code: fault}
 	}
@@ -258,8 +263,8 @@ func stackTextTold(code []int64) impl.TextResult {
 		if word < 1 || word > 13 {
 			return impl.TextResult{Code: impl.ErrText}
 		}
-		left = ofOp(stackWords, word)
-		text += "\n" + strings.Fields(stackNames)[word-1]
+		left = ofOp(words, word)
+		text += "\n" + strings.Fields(names)[word-1]
 	}
 	if left > 0 {
 		return impl.TextResult{Code: impl.ErrText}
