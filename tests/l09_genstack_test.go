@@ -204,10 +204,10 @@ func TestWordsWordByWord(t *testing.T) {
 	}
 }
 
-// marksIn answers the words behind each mark of code.
-func marksIn(code []int64) []int64 {
+// marksIn answers the words behind each mark of code that is written.
+func marksIn(text string) []int64 {
 	var marks []int64
-	for line := range strings.Lines(impl.StackText(code).Text) {
+	for line := range strings.Lines(text) {
 		if number, holds := strings.CutPrefix(strings.TrimSpace(line), "mark "); holds {
 			mark, _ := strconv.Atoi(number)
 			marks = append(marks, int64(mark))
@@ -247,7 +247,7 @@ func TestMarksOfPlaces(t *testing.T) {
 		"rn[1] := 2; if f then rb[0] := p; end; for k := 5 to 4 do n := -n; end;": {2, 7, 6, 11, 1011, 10},
 	} {
 		tree := program(t, declared+text)
-		if got := marksIn(checkCompiled(t, tree).Words); !slices.Equal(got, want) {
+		if got := marksIn(impl.StackText(checkCompiled(t, tree).Words).Text); !slices.Equal(got, want) {
 			t.Errorf("%q has the marks %v, want %v", text, got, want)
 		}
 		// Each place of a statement is one of them, and no other.
@@ -259,7 +259,7 @@ func TestMarksOfPlaces(t *testing.T) {
 	}
 	// The last place of all that there may be.
 	tree := longTree(impl.Node{Kind: impl.NodeFor, Name: "n", Far: 1})
-	marks := marksIn(checkCompiled(t, tree).Words)
+	marks := marksIn(impl.StackText(checkCompiled(t, tree).Words).Text)
 	if len(tree.Nodes) != 200 || !slices.Equal(marks[len(marks)-3:], []int64{198, 199, 1199}) {
 		t.Errorf("%d nodes have the marks %v", len(tree.Nodes), marks)
 	}
@@ -408,7 +408,7 @@ func TestStackCodeOfTreesWithACode(t *testing.T) {
 	}
 }
 
-// checkWorst asks for the Worst of a program, and how many steps scans take with i 0, 1 and so on.
+// checkWorst asks for the Worst of a program, and how many steps scans take with i 0, 1 and so on, on both machines.
 func checkWorst(t *testing.T, statements string, worst int64, steps ...int64) {
 	t.Helper()
 	tree := program(t, "in i:int; out o:int; var n:int; var f:bool; "+statements)
@@ -421,6 +421,13 @@ func checkWorst(t *testing.T, statements string, worst int64, steps ...int64) {
 		if got.Code != impl.OK || got.Steps != want {
 			t.Errorf("%q with %d: code %d, %d steps, want %d", statements, i, got.Code, got.Steps, want)
 		}
+		// On registers it is as many.
+		if got := checkAllScans(t, tree, zeros(t, tree), []int64{int64(i)}); got.Steps != want {
+			t.Errorf("%q with %d: %d steps on registers, want %d", statements, i, got.Steps, want)
+		}
+	}
+	if regs := checkRegsMade(t, tree); regs.Code != impl.OK || regs.Worst != worst {
+		t.Errorf("%q on registers: code %d, Worst %d, want %d", statements, regs.Code, regs.Worst, worst)
 	}
 }
 

@@ -287,8 +287,8 @@ func TestStackScansOfTreesWithCalls(t *testing.T) {
 	checkScanned(t, wide, []int64{impl.AsEnd}, append(words, 1), nil, 3, impl.ScanResult{Code: impl.ErrForm})
 }
 
-// checkSameEnd asks that a scan of a program and one of its code end in the same way and with this code, and how many steps
-// each of them tells. All cells are 0 ahead of it.
+// checkSameEnd asks that a scan of a program and those of its code for both machines end in the same way and with this code,
+// and how many steps it tells, and each of them. All cells are 0 ahead of it.
 func checkSameEnd(t *testing.T, text string, inputs []int64, code, steps, used int64) {
 	t.Helper()
 	tree := program(t, declared+text)
@@ -298,6 +298,9 @@ func checkSameEnd(t *testing.T, text string, inputs []int64, code, steps, used i
 	got := checkStackScan(t, tree, made.Words, cells, inputs, made.Worst)
 	if told.Code != code || got.Code != code || told.Steps != steps || got.Steps != used || !slices.Equal(told.State.Cells, got.State.Cells) || !slices.Equal(told.Outs, got.Outs) {
 		t.Errorf("%q with %v: %v\nits code: %v\nwant %d, %d, %d", text, inputs, told, got, code, steps, used)
+	}
+	if regs := checkAllScans(t, tree, cells, inputs); regs.Code != code || regs.Steps != used {
+		t.Errorf("%q with %v on registers: %v, want %d, %d", text, inputs, regs, code, used)
 	}
 }
 
@@ -339,5 +342,6 @@ func TestBoolsOfStates(t *testing.T) {
 		if told.Code != impl.OK || got.Code != impl.OK || !slices.Equal(told.State.Cells, got.State.Cells) || !slices.Equal(told.Outs, got.Outs) {
 			t.Errorf("%q: %v, its code: %v", text, told, got)
 		}
+		checkAllScans(t, tree, cells, []int64{0, 4})
 	}
 }

@@ -112,8 +112,9 @@ func linesTold(t impl.Tree) []string {
 	return l.lines
 }
 
-// wordsOfLines makes the words once with places as they come, and once more with the places that were found.
-func wordsOfLines(lines []string) []int64 {
+// wordsOfLines makes the words once with places as they come, and once more with the places that were found; the names
+// are those of the ops of a machine.
+func wordsOfLines(lines []string, names string) []int64 {
 	places := map[string]int64{}
 	var words []int64
 	for range 2 {
@@ -124,7 +125,7 @@ func wordsOfLines(lines []string) []int64 {
 				continue
 			}
 			parts := strings.Fields(line)
-			words = append(words, int64(slices.Index(strings.Fields(stackNames), parts[0]))+1)
+			words = append(words, int64(slices.Index(strings.Fields(names), parts[0]))+1)
 			for _, part := range parts[1:] {
 				number, err := strconv.Atoi(part)
 				if err != nil {
@@ -166,7 +167,7 @@ func compiledTold(t impl.Tree, code int64) impl.CodeResult {
 	case slices.ContainsFunc(t.Nodes, func(node impl.Node) bool { return node.Kind == 11 }):
 		return impl.CodeResult{Code: impl.ErrState}
 	}
-	words, worst := wordsOfLines(linesTold(t)), worstTold(t, t.Body)+1
+	words, worst := wordsOfLines(linesTold(t), stackNames), worstTold(t, t.Body)+1
 	if len(words) > 400 || worst > 20000 {
 		return impl.CodeResult{Code: impl.ErrMany}
 	}
